@@ -50,12 +50,13 @@ func TestP18_1Behind(t *testing.T) {
 	}
 }
 
-// parts are the declarations of one kind: their text, and what adds them to a module.
+// part is a declaration: its text, and what adds it to a module.
 type part struct {
 	text string
 	add  func(m *api.Module)
 }
 
+// parts returns several declarations of each kind.
 func parts() []part {
 	field := func(name string, kind api.TypeKind) api.Field {
 		return api.Field{Name: name, Type: api.Type{Kind: kind}}
@@ -137,7 +138,6 @@ func TestP18_1Names(t *testing.T) {
 		}
 		for _, other := range slices.Concat(words(), typeWords(), []string{"0", "1.5", "(", "-", "=", "->"}) {
 			text := "shader vertex;" + strings.ReplaceAll(place, "@", other)
-			// A function can have no parameters, a struct no fields, and a declaration or a statement may follow them.
 			checkError(t, text, 2, api.ErrSyntax)
 		}
 	}

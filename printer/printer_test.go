@@ -148,14 +148,7 @@ func expectedExpr(e api.Expr) (string, bool) {
 		used.Op, count = e.Op, 2
 		ok = len(args) == 2 && e.Op >= 1 && e.Op <= 16
 		if ok {
-			level, left, right := precedences()[e.Op], 100, 100
-			if e.Args[0].Kind == 6 {
-				left = precedences()[e.Args[0].Op]
-			}
-			if e.Args[1].Kind == 6 {
-				right = precedences()[e.Args[1].Op]
-			}
-			text = inside(left < level || left == level && level == 4, args[0]) + " " + signs()[e.Op] + " " + inside(right <= level, args[1])
+			text = expectedBinary(e, args)
 		}
 	case 7:
 		used.Name, count = e.Name, len(args)
@@ -181,6 +174,18 @@ func expectedExpr(e api.Expr) (string, bool) {
 		return "", false
 	}
 	return text, true
+}
+
+// expectedBinary returns the text of a binary expression whose operands have these texts.
+func expectedBinary(e api.Expr, args []string) string {
+	level, left, right := precedences()[e.Op], 100, 100
+	if e.Args[0].Kind == 6 {
+		left = precedences()[e.Args[0].Op]
+	}
+	if e.Args[1].Kind == 6 {
+		right = precedences()[e.Args[1].Op]
+	}
+	return inside(left < level || left == level && level == 4, args[0]) + " " + signs()[e.Op] + " " + inside(right <= level, args[1])
 }
 
 // inside returns a text, in parentheses if that is necessary.
