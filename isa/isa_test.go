@@ -151,6 +151,18 @@ func expected(op api.Opcode, a, b, c, imm int) int {
 		return slices.Min([]int{a, b})
 	case api.Max:
 		return slices.Max([]int{a, b})
+	case api.Select:
+		if a == 0 {
+			return c
+		}
+		return b
+	}
+	return expectedUnary(op, a)
+}
+
+// expectedUnary is expected of an opcode with one operand.
+func expectedUnary(op api.Opcode, a int) int {
+	switch op {
 	case api.Abs:
 		return max(saturate(a), -saturate(a))
 	case api.AbsInt:
@@ -177,11 +189,6 @@ func expected(op api.Opcode, a, b, c, imm int) int {
 		return int(math.Floor(float64(saturate(a)) / one))
 	case api.BoolOfInt:
 		return truth(a != 0)
-	case api.Select:
-		if a == 0 {
-			return c
-		}
-		return b
 	}
 	return 0
 }

@@ -143,7 +143,7 @@ func TestP23_2Operators(t *testing.T) {
 				text := names[word(left)][0] + " " + sign + " " + names[word(right)][1]
 				e, _, _ := parser.ParseExpr(text)
 				if _, code := types.ExprType(globals, nil, e); code == api.OK {
-					checkExpr(t, text, 60)
+					checkExpr(t, text, 40)
 					count++
 				}
 			}
@@ -153,7 +153,7 @@ func TestP23_2Operators(t *testing.T) {
 		t.Errorf("there are %d pairs of operands", count)
 	}
 	for _, text := range []string{"-f", "-h", "-n", "-v2", "-v3", "-v4", "!n", "!b", "--f", "!!b", "-(-n)"} {
-		checkExpr(t, text, 60)
+		checkExpr(t, text, 40)
 	}
 	// Equal operands.
 	for _, pair := range names {
@@ -174,7 +174,7 @@ func TestP23_2Expressions(t *testing.T) {
 		"twice(f)", "four(f)", "four(four(f) * 0.01)", "swap(v2, 0)", "swap(v2, n & 3)", "swap(swap(l, n), n2)", "pair(n)", "pair(1).v", "same(k)", "same(same(t)).s", "swap(pair(n & 1).v, pair(n2).n)",
 		"f + f2 * i - f / f2", "(n + n2) * (n - n2) % (n2 | 1)", "b & (f < f2) | !b2 ^ (n == n2)", "vec4(v2 * 2.0, w2 / f) + v4 * w4",
 	} {
-		checkExpr(t, text, 60)
+		checkExpr(t, text, 40)
 	}
 }
 
@@ -287,7 +287,7 @@ func TestP23_4Arbitrary(t *testing.T) {
 	w := writer{state: 1}
 	seen := map[api.Opcode]int{}
 	good, stopped := 0, 0
-	for range 6000 {
+	for range 4000 {
 		m := w.module()
 		if types.Check(m) != api.OK {
 			continue
@@ -310,7 +310,7 @@ func TestP23_4Arbitrary(t *testing.T) {
 			}
 		}
 	}
-	if good < 3000 || stopped < 500 {
+	if good < 2000 || stopped < 500 {
 		t.Errorf("only %d modules are valid, and %d events were seen", good, stopped)
 	}
 	for op := api.Const; op <= api.Cut; op++ {

@@ -170,7 +170,6 @@ func wrongPrograms() []api.Program {
 	return []api.Program{{}, {Stage: 4, Registers: 2, Code: []api.Instr{constant, dead, dead}}, {Stage: 1, Registers: -1, Code: []api.Instr{constant, dead}}, {Stage: 1, Registers: 8193, Code: []api.Instr{constant, dead}}, {Stage: 1, Registers: math.MaxInt}, with(constant, dead, api.Instr{}), with(constant, dead, api.Instr{Op: 53}), with(constant, dead, api.Instr{Op: api.Move, A: 2}), with(constant, api.Instr{Op: api.Move, Dst: math.MaxInt, A: 1}), with(constant, api.Instr{Op: api.Move, A: -1}), with(constant, dead, api.Instr{Op: api.If, A: 1}), with(constant, dead, api.Instr{Op: api.EndIf}), with(constant, dead, api.Instr{Op: api.Move, A: 1, B: 1}), with(slices.Repeat([]api.Instr{dead}, 16385)...)}
 }
 
-
 func equal(a, b api.LaneResult) bool {
 	return slices.Equal(a.Outputs, b.Outputs) && a.Discarded == b.Discarded && slices.EqualFunc(a.Emitted, b.Emitted, slices.Equal) && slices.Equal(a.Cuts, b.Cuts)
 }
