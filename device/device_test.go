@@ -272,6 +272,18 @@ func TestP50_1SetPipeline(t *testing.T) {
 			t.Errorf("pipeline %d is changed to %v", id, again)
 		}
 	}
+	whole, _ := newWorld(t).Pipeline(3)
+	want := fmt.Sprint(whole)
+	d.SetPipeline(0, whole)
+	whole.Geometry.Code[0].Imm++
+	got, _ := d.Pipeline(0)
+	if !got.HasGeometry || fmt.Sprint(got) != want {
+		t.Errorf("the pipeline with a geometry stage is %v", got)
+	}
+	got.Geometry.Code[0].Imm++
+	if again, _ := d.Pipeline(0); fmt.Sprint(again) != want {
+		t.Errorf("the pipeline with a geometry stage is changed to %v", again)
+	}
 	before := written(d)
 	changes := map[api.Errno]func(p *api.Pipeline){
 		api.ErrShader: func(p *api.Pipeline) { p.Vertex = api.Program{} }, api.ErrCount: func(p *api.Pipeline) { p.Attributes = nil }, api.ErrLink: func(p *api.Pipeline) { p.Fragment.Inputs = 1 }, api.ErrKind: func(p *api.Pipeline) { p.Cull = 0 }, api.ErrRange: func(p *api.Pipeline) { p.Viewport.Height = 65 }, api.ErrState: func(p *api.Pipeline) { p.Blend.Mask = 16 }, api.ErrFormat: func(p *api.Pipeline) { p.Format = 9 }, api.ErrSize: func(p *api.Pipeline) { p.Samples = 3 },

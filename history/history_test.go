@@ -231,6 +231,25 @@ func TestP51_1Outcomes(t *testing.T) {
 	}
 }
 
+// TestP51_1Passes has passes that load what the ones before them left, and barriers that name the state of their texture, so that each command has to be executed exactly once.
+func TestP51_1Passes(t *testing.T) {
+	d := newWorld(t)
+	list := []api.Command{wall(1, 1, 2), bindTexture(0, 1), bindVertex(0, 0), uniforms(0, one/8, one/9), bind(0), load(0), draw(0, 12), end}
+	for i := range 4 {
+		list = append(list, wall(0, []api.ResourceState{1, 2, 2, 2}[i], 5), resolving(0, 0), wall(0, 5, 2), bindTexture(0, i%2), bind(0), load(0), draw(i, 12), draw(0, 5), end, bind(1), load(1), draw(i, 9), end)
+	}
+	counts := map[int]int{}
+	for x := range wide {
+		for y := range high {
+			counts[len(check(t, d, list, 0, x, y))]++
+			check(t, d, list, 1, x, y)
+		}
+	}
+	if len(counts) < 5 {
+		t.Errorf("the numbers of events are %v", counts)
+	}
+}
+
 func TestP51_1Errors(t *testing.T) {
 	d := newWorld(t)
 	good := []api.Command{begin(0), end}

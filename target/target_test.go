@@ -219,6 +219,12 @@ func broken() map[string]api.Target {
 	for _, d := range depthFormats()[3:] {
 		add(fmt.Sprintf("depth format %d", d), func(t *api.Target) { t.Depth = d })
 	}
+	for _, size := range [][2]int{{4, 2}, {3, 3}, {1, 2}, {3, 1}} {
+		add(fmt.Sprintf("lists for %v", size), func(t *api.Target) {
+			t.Width, t.Height = size[0], size[1]
+			t.Depths, t.Stencils = make([]int, 2*size[0]*size[1]), make([]int, 2*size[0]*size[1])
+		})
+	}
 	add("swapped sides", func(t *api.Target) { t.Width, t.Height = 2, 3 })
 	add("no images", func(t *api.Target) { t.Color = nil })
 	add("an image too few", func(t *api.Target) { t.Color = t.Color[:1] })
